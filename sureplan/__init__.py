@@ -1,0 +1,1 @@
+"""Sureplan: a planner whose answers carry certificates."""

@@ -1,0 +1,63 @@
+"""Point 7 and the interface: every name stands in its module, with its arguments, and is defined there."""
+
+import importlib
+import inspect
+import unittest
+
+ERRORS = {
+    "PlanError": None,
+    "BadTask": "where, why",
+    "BadValue": "name",
+    "NotPossible": "position, reason",
+    "TooManyStates": "limit",
+    "TooLarge": "what",
+    "TextError": "line, column, words",
+}
+FUNCTIONS = {
+    "meaning": {"holds": "task, formula, state", "worth": "task, amount, state", "try_step": "task, state, step"},
+    "running": {"run": "task, state, steps", "possible_steps": "task, state"},
+    "search": {"reached_states": "task, state", "first_plan": "task, state, goal=None"},
+}
+METHODS = {
+    "all_facts": "", "all_numbers": "", "all_resources": "", "all_steps": "", "objects_of": "kind",
+    "fact_index": "name, args", "number_index": "name, args", "resource_index": "name, args",
+    "step_index": "action, args", "start_state": "", "condition_of": "step", "effects_of": "step", "cost_of": "step",
+    "time_of": "step", "uses_of": "step", "is_step": "step", "is_state": "state", "is_formula": "formula",
+    "is_amount": "amount",
+}
+
+
+def arguments(function):
+    return str(inspect.signature(function))[1:-1]
+
+
+class InterfaceTest(unittest.TestCase):
+    def module(self, name):
+        return importlib.import_module("sureplan." + name)
+
+    def test_functions(self):
+        for name, listed in FUNCTIONS.items():
+            for function, expected in listed.items():
+                found = getattr(self.module(name), function)
+                self.assertEqual(arguments(found), expected, function)
+                self.assertEqual(found.__module__, "sureplan." + name)
+
+    def test_errors(self):
+        for name, expected in ERRORS.items():
+            found = getattr(self.module("errors"), name)
+            self.assertEqual(found.__module__, "sureplan.errors")
+            if expected is not None:
+                self.assertEqual(arguments(found), expected)
+
+    def test_task(self):
+        task = self.module("tasks").Task
+        self.assertEqual(task.__module__, "sureplan.tasks")
+        self.assertEqual(arguments(task), "*, kinds=(), objects=(), facts=(), numbers=(), resources=(), actions=(), "
+                                          "start=((), ()), goal=('true',)")
+        for name, expected in METHODS.items():
+            self.assertIn(name, vars(task))
+            self.assertEqual(", ".join(list(inspect.signature(vars(task)[name]).parameters)[1:]), expected)
+
+
+if __name__ == "__main__":
+    unittest.main()
