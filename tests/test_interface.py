@@ -17,6 +17,12 @@ FUNCTIONS = {
     "meaning": {"holds": "task, formula, state", "worth": "task, amount, state", "try_step": "task, state, step"},
     "running": {"run": "task, state, steps", "possible_steps": "task, state"},
     "search": {"reached_states": "task, state", "first_plan": "task, state, goal=None"},
+    "boxes": {"whole_box": "task", "box_of_state": "state", "common_box": "first, second", "hull": "first, second",
+              "lies_in": "first, second", "in_box": "state, box"},
+    "conditions": {"linear_form": "task, amount", "span_of": "task, amount, box", "judged": "task, formula, box"},
+    "cutting": {"cut": "task, formula, box, wanted", "remainder": "task, formula, box"},
+    "stepping": {"step_from": "task, step, box"},
+    "outline": {"outline": "task, state", "changeable": "task, state"},
 }
 METHODS = {
     "all_facts": "", "all_numbers": "", "all_resources": "", "all_steps": "", "objects_of": "kind",
