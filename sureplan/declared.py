@@ -42,7 +42,7 @@ class Declared:
 
     def count_choices(self, kinds, least=0):
         """Returns how many choices of objects there are, each kind counted as at least so many objects."""
-        product = 1
+        many = 1
         for kind in kinds:
-            product = product * max(least, len(self.members[kind]))
-        return product
+            many = many * max(least, len(self.members[kind]))
+        return many

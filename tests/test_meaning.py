@@ -87,6 +87,12 @@ class FormulasTest(unittest.TestCase):
             self.check(("all", pairs, ("or", ())), True)
             self.check(("some", pairs, ("and", ())), False)
 
+    def test_parts_without_instances(self):
+        trucks = (("?t", "Truck"),)
+        self.check(("all", trucks, ("and", (fact("at", "?t", "home"), ("and", ())))), False)
+        self.check(("some", trucks, ("or", (("or", ()), ("not", fact("at", "?t", "home"))))), True)
+        self.check(("all", trucks, ("implies", ("and", ()), fact("at", "?t", "home"))), False)
+
     def test_bare_formulas_over_very_many_choices(self):
         objects = tuple((f"o{k}", "Thing") for k in range(30))
         task = Task(objects=objects, actions=(action(condition=TRUE),))

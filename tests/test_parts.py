@@ -99,6 +99,14 @@ class TooMuchDeclaredTest(unittest.TestCase):
         four = action("a", (("?x", "Thing"), ("?y", "Thing"), ("?z", "Thing"), ("?u", "Thing")))
         self.assertEqual(problem(objects=self.objects(30), actions=(four,)), (("actions",), "many"))
 
+    def test_kinds_without_objects_count_nothing(self):
+        kinds, objects = (("Empty", "Thing"),), self.objects(20)
+        pair = action("a", (("?x", "Thing"), ("?y", "Thing")))
+        none = action("b", (("?x", "Thing"), ("?y", "Empty")))
+        self.assertIsNone(problem(kinds=kinds, objects=objects, actions=(pair, none)))
+        facts = tuple((f"f{k}", ("Thing",)) for k in range(6)) + (("g", ("Empty", "Thing")),)
+        self.assertIsNone(problem(kinds=kinds, objects=objects, facts=facts))
+
     def test_no_objects_no_facts(self):
         task = Task(kinds=(("Empty", "Thing"),), facts=(("f", ("Empty",)),), numbers=(("n", ("Empty",), 0, 1),),
                     resources=(("r", ("Empty",), 1),), actions=(action("a", (("?x", "Empty"),)),))
