@@ -29,6 +29,17 @@ def common_box(first, second):
     return (tuple(facts), tuple(spans))
 
 
+def meets(first, second):
+    """Tells if two boxes have a common box."""
+    for entry, other in zip(first[0], second[0]):
+        if entry != other and entry is not None and other is not None:
+            return False
+    for (low, high), (other_low, other_high) in zip(first[1], second[1]):
+        if low > other_high or high < other_low:
+            return False
+    return True
+
+
 def hull(first, second):
     """Returns the smallest box that contains both boxes."""
     facts = [entry if entry == other else None for entry, other in zip(first[0], second[0])]

@@ -10,6 +10,14 @@ def check_state(task, state):
         raise BadValue("state")
 
 
+def checked_start(task, state):
+    """Returns the state, or the start of the task if it is None."""
+    if state is None:
+        return task.start_state()
+    check_state(task, state)
+    return state
+
+
 def check_formula(task, formula, name="formula"):
     if not task.is_formula(formula):
         raise BadValue(name)

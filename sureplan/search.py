@@ -41,6 +41,11 @@ def distances(arcs, ends):
     return found
 
 
+def goal_places(goal, states):
+    """Returns the places of the states in which a ground goal holds."""
+    return [place for place, (holding, values) in enumerate(states) if is_true(goal, holding, values)]
+
+
 def next_arc(arcs, found, place):
     """Returns the arc with the least step that a least way takes from a place."""
     total, length = found[place]
@@ -57,8 +62,7 @@ def first_plan(task, state, goal=None):
     goal = ground_formula(task, checked_goal(task, goal), {})
     explored = Explored(Grounded(task), state)
     arcs = explored.arcs
-    ends = [place for place, (holding, values) in enumerate(explored.states) if is_true(goal, holding, values)]
-    found = distances(arcs, ends)
+    found = distances(arcs, goal_places(goal, explored.states))
     if found[0] is None:
         return None
     steps = []

@@ -1,5 +1,6 @@
 """Small tasks, formulas, amounts and boxes, drawn from a random source with a fixed seed."""
 
+from sureplan.search import first_plan
 from sureplan.tasks import Task
 
 KINDS = (("Sort", "Thing"), ("Empty", "Thing"))
@@ -113,3 +114,64 @@ class Draw:
         for _, _, low, high in task.all_numbers():
             spans.append(tuple(sorted((self.source.randint(low, high), self.source.randint(low, high)))))
         return (facts, tuple(spans))
+
+
+class Lively:
+    """Draws tasks in which something happens: most steps are possible somewhere, and most goals are some steps away."""
+
+    def __init__(self, source, facts=3, numbers=2):
+        self.source = source
+        self.facts = tuple((f"f{k}", ()) for k in range(facts))
+        self.numbers = tuple((f"n{k}", (), 0, 3 - k) for k in range(numbers))
+
+    def number(self):
+        return ("number", self.source.choice(self.numbers)[0], ())
+
+    def literal(self):
+        if self.numbers and self.source.random() < 0.4:
+            return (self.source.choice(COMPARISONS), self.number(), ("int", self.source.randint(0, 3)))
+        fact = ("fact", self.source.choice(self.facts)[0], ())
+        return fact if self.source.random() < 0.6 else ("not", fact)
+
+    def condition(self, most=2):
+        parts = tuple(self.literal() for _ in range(self.source.randint(0, most)))
+        word = self.source.choice(("and", "and", "and", "or")) if len(parts) > 1 else "and"
+        return (word, parts)
+
+    def effect(self):
+        if self.source.random() < 0.15:
+            return ("when", self.literal(), (self.plain_effect(),))
+        return self.plain_effect()
+
+    def plain_effect(self):
+        if self.numbers and self.source.random() < 0.45:
+            word = self.source.choice(("add", "add", "take", "set"))
+            return (word,) + self.number()[1:] + (("int", self.source.randint(0, 2)),)
+        return (self.source.choice(("make", "make", "unmake")), self.source.choice(self.facts)[0], ())
+
+    def action(self, name):
+        effects = tuple(self.effect() for _ in range(self.source.randint(1, 2)))
+        cost = ("int", self.source.choice((0, 1, 1, 2, 2, 3, 5)))
+        if self.numbers and self.source.random() < 0.15:
+            cost = ("plus", (cost, self.number()))
+        return (name, (), self.condition(), effects, cost, ("int", self.source.randint(1, 2)), ())
+
+    def task(self, actions=5):
+        drawn = tuple(self.action(f"act{k}") for k in range(actions))
+        goal = ("and", tuple(self.literal() for _ in range(self.source.randint(1, 3))))
+        return Task(facts=self.facts, numbers=self.numbers, actions=drawn, goal=goal)
+
+    def state(self, task):
+        return Draw(self.source).state(task)
+
+
+def lively_case(source, least=1, facts=3, numbers=2):
+    """A lively task, a state, and the first plan from there, which costs at least so much, or None if there is none."""
+    for _ in range(200):
+        draw = Lively(source, source.randint(1, facts), source.randint(0, numbers))
+        task = draw.task(source.randint(2, 6))
+        state = draw.state(task)
+        plan = first_plan(task, state)
+        if plan is not None and plan[0] >= least or plan is None and source.random() < 0.1:
+            break
+    return task, state, plan

@@ -23,6 +23,11 @@ FUNCTIONS = {
     "cutting": {"cut": "task, formula, box, wanted", "remainder": "task, formula, box"},
     "stepping": {"step_from": "task, step, box"},
     "outline": {"outline": "task, state", "changeable": "task, state"},
+    "certificates": {"certificate": "task, state=None, goal=None"},
+    "trimming": {"trimmed": "task, state, goal, lines"},
+    "groups": {"groups": "task, state"},
+    "levels": {"levels": "task, state", "level_bound": "task, state"},
+    "cuts": {"cuts": "task, state", "cut_bound": "task, state"},
 }
 METHODS = {
     "all_facts": "", "all_numbers": "", "all_resources": "", "all_steps": "", "objects_of": "kind",
@@ -63,6 +68,14 @@ class InterfaceTest(unittest.TestCase):
         for name, expected in METHODS.items():
             self.assertIn(name, vars(task))
             self.assertEqual(", ".join(list(inspect.signature(vars(task)[name]).parameters)[1:]), expected)
+
+    def test_judge(self):
+        judge = self.module("judge").Judge
+        self.assertEqual(judge.__module__, "sureplan.judge")
+        self.assertEqual(arguments(judge), "task, state=None, goal=None")
+        for name, expected in (("line", "line"), ("claim", "")):
+            self.assertIn(name, vars(judge))
+            self.assertEqual(", ".join(list(inspect.signature(vars(judge)[name]).parameters)[1:]), expected)
 
 
 if __name__ == "__main__":
