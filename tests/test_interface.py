@@ -28,6 +28,13 @@ FUNCTIONS = {
     "groups": {"groups": "task, state"},
     "levels": {"levels": "task, state", "level_bound": "task, state"},
     "cuts": {"cuts": "task, state", "cut_bound": "task, state"},
+    "projections": {"projections": "task, patterns, state", "projection_bound": "task, patterns, state"},
+    "boundlines": {"level_lines": "task, state", "cut_lines": "task, state",
+                   "projection_lines": "task, patterns, state"},
+    "orders": {"goes_alike": "task, steps, state, order", "kept_pairs": "task, steps, state",
+               "pair_witnesses": "task, steps, state"},
+    "purposes": {"purposes": "task, steps, state", "cheapest_part": "task, steps, state"},
+    "touching": {"formula_reads": "task, formula", "reads": "task, step", "writes": "task, state, step"},
 }
 METHODS = {
     "all_facts": "", "all_numbers": "", "all_resources": "", "all_steps": "", "objects_of": "kind",
