@@ -20,12 +20,14 @@ class Crop:
 
     def try_leaf(self, place):
         """Replaces a split, and returns its second tree, which `restore` needs."""
-        second = self.tree.seconds[place]
-        self.tree.seconds[place] = None
+        seconds = self.tree.seconds
+        second = seconds[place]
+        seconds[place] = None
         return second
 
     def restore(self, place, second):
-        self.tree.seconds[place] = second
+        seconds = self.tree.seconds
+        seconds[place] = second
 
     def keep_leaf(self, place):
         """Lets the places below a split that was replaced be gone."""

@@ -110,10 +110,11 @@ class Judge:
         if reason != "right":
             self.tree.take_back()
             return reason
+        proof = self.proof
         if self.shared is None:
-            self.proof.inside = self.tree
+            proof.inside = self.tree
         else:
-            self.proof.layers[-1].append_tree(self.shared)
+            proof.layers[-1].append_tree(self.shared)
         self.tree = None
         self.shared = None
         return "right"

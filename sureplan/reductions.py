@@ -38,15 +38,16 @@ class Reducer:
         return fault is None
 
     def leave_out_layer(self):
-        layers = self.proof.layers
+        proof = self.proof
+        layers = proof.layers
         for place in range(len(layers) - 1, -1, -1):
             layer = layers[place]
             if not self.is_impossible(layer):
-                self.proof.layers = layers[:place] + layers[place + 1:]
+                proof.layers = layers[:place] + layers[place + 1:]
                 if self.is_possible(layer, self.whole.missing_fault(place)):
                     self.whole.leave_out(layer.trees)
                     return True
-                self.proof.layers = layers
+                proof.layers = layers
         return False
 
     def leave_out_tree(self):
@@ -94,13 +95,13 @@ class Reducer:
         return False
 
     def leave_out_inside(self):
+        proof = self.proof
         inside = self.whole.inside
         if self.is_impossible(inside):
             return False
-        self.proof.inside = None
+        proof.inside = None
         if self.is_possible(inside, self.whole.all_fault()):
-            inside.leave_out()
-            self.whole.inside = None
+            self.whole.leave_out_inside()
             return True
-        self.proof.inside = inside.tree
+        proof.inside = inside.tree
         return False

@@ -28,6 +28,11 @@ class Whole:
         for kept in trees:
             self.crops[kept].leave_out()
 
+    def leave_out_inside(self):
+        """Lets the tree of the inside, which the proof has no longer, be gone."""
+        self.inside.leave_out()
+        self.inside = None
+
     def marked(self, kept, fault):
         """Returns the fault of a tree of a layer as pairs of crops and places."""
         place, spot = fault

@@ -6,7 +6,7 @@ import unittest
 
 from boxoracle import states_in
 from samples import world
-from sureplan.boxes import box_of_state, common_box, hull, in_box, lies_in, whole_box
+from sureplan.boxes import box_of_state, common_box, hull, in_box, lies_in, meets, whole_box
 from sureplan.tasks import Task
 
 ENTRIES = (None, True, False)
@@ -117,6 +117,7 @@ class StatesTest(unittest.TestCase):
             one, other = set(states_in(first)), set(states_in(second))
             common = common_box(first, second)
             self.assertEqual(set(states_in(common)) if common else set(), one & other)
+            self.assertIs(meets(first, second), bool(one & other))
             self.assertIs(lies_in(first, second), one <= other)
             both = hull(first, second)
             self.assertTrue(one | other <= set(states_in(both)))

@@ -7,7 +7,7 @@ from unittest import mock
 import boundoracle
 from randoms import Draw, lively_case
 from samples import FALSE, ONE, TRUE, action, fact, number, whole
-from sureplan.cuts import cut_bound, cuts
+from sureplan.cuts import MOST_CUTS, cut_bound, cuts
 from sureplan.errors import BadValue, TooLarge
 from sureplan.search import first_plan
 from sureplan.tasks import Task
@@ -89,7 +89,8 @@ class CutsTest(unittest.TestCase):
         dead = Task(facts=task.facts, actions=task.actions, goal=FALSE)
         self.assertEqual(cut_bound(task, state), 12)
         self.assertEqual(len(cuts(dead, state)), 13)
-        # No task has enough steps for more than 500 cuts, so the limit is lowered here.
+        # Each cut leaves nothing of a step, so no task has enough steps for more than 500; the limit is lowered here.
+        self.assertEqual(MOST_CUTS, 500)
         for most, function, one, fits in ((12, cuts, task, True), (11, cuts, task, False), (13, cut_bound, dead, True),
                                           (12, cut_bound, dead, False)):
             with mock.patch("sureplan.cuts.MOST_CUTS", most):

@@ -2,6 +2,7 @@
 
 import random
 import unittest
+from unittest import mock
 
 from drawnlines import DrawnLines, plain_line, slow_judge, spoiled
 from randoms import Draw, lively_case
@@ -46,6 +47,14 @@ class SameAnswersTest(unittest.TestCase):
             task, state, _ = lively_case(source)
             lines = [spoiled(source, line) if source.random() < 0.05 else line for line in certificate(task, state)]
             self.compare(seed, task, state, lines[:80])
+
+    def test_answers_that_are_forgotten(self):
+        for seed in range(30):
+            source = random.Random(seed)
+            task, state, _ = lively_case(source)
+            good = DrawnLines(source, slow_judge(task, state)).certificate()
+            with mock.patch("sureplan.boxmoves.MOST_KEPT", 5):
+                self.compare(seed, task, state, good)
 
     def test_large_formulas_and_effects(self):
         for seed in range(100):

@@ -4,6 +4,7 @@ import unittest
 
 from samples import FALSE, ONE, TRUE, action, fact, number, whole
 from sureplan.judge import Judge
+from sureplan.stepchecks import StepCheck
 from sureplan.tasks import Task
 
 N, M = number("n"), number("m")
@@ -377,6 +378,19 @@ class LeanTest(unittest.TestCase):
         lean = (("fact", 0), label(0), ("fact", 1), label(0), label(5))
         self.assertEqual(last(task, *inside, *TREE, *known, *LEAN, *lean), "right")
         self.assertEqual(last(task, *inside, *LEAN, *lean), "step")
+
+
+class NoPieceTest(unittest.TestCase):
+    def test_a_box_without_pieces_has_the_least_label_none(self):
+        judge = Judge(walk(goal=fact("b")))
+        for line in (("invariant",), ("fact", 1), label(None), label(0), *TREE, label(7)):
+            self.assertEqual(judge.line(line), "right")
+        judge.line(("lean",))
+        kept = judge.proof.layers[0].trees[0]
+        for earlier in (None, judge.proof.layers[:1]):
+            check = StepCheck(judge.proof, kept, earlier)
+            self.assertIsNone(check.least_of(((None, True), ((0, 5),))))
+            self.assertEqual(check.least_of(((None, None), ((0, 5),))), 7)
 
 
 class DeepTest(unittest.TestCase):

@@ -103,6 +103,14 @@ class ImportsTest(unittest.TestCase):
             for name in free:
                 del below[name]
 
+    def test_names_of_the_library_are_only_called(self):
+        library = {name for names in LIBRARY.values() for name in names}
+        for name, tree in trees():
+            called = [node.func for node in ast.walk(tree) if isinstance(node, ast.Call) and not node.keywords]
+            for node in ast.walk(tree):
+                if isinstance(node, ast.Name) and node.id in library:
+                    self.assertIn(node, called, (name, node.lineno))
+
     def test_every_import_is_used(self):
         for name, tree in trees():
             used = {node.id for node in ast.walk(tree) if isinstance(node, ast.Name)}
@@ -157,6 +165,22 @@ class StatementsTest(unittest.TestCase):
                 self.assertNotIsInstance(node, self.barred, name)
                 if isinstance(node, ast.Constant):
                     self.assertNotIsInstance(node.value, (float, complex, bytes), name)
+
+    def test_attributes_are_assigned_through_local_names(self):
+        for name, tree in trees():
+            for node in ast.walk(tree):
+                if isinstance(node, ast.Attribute) and isinstance(node.ctx, ast.Store):
+                    self.assertIsInstance(node.value, ast.Name, (name, node.lineno))
+
+    def test_no_name_is_a_method_and_an_attribute(self):
+        # The interface itself has a method and an attribute `line`, in different classes.
+        methods, attributes = set(), set()
+        for _, tree in trees():
+            for one in [node for node in ast.walk(tree) if isinstance(node, ast.ClassDef)]:
+                methods |= {node.name for node in one.body if isinstance(node, ast.FunctionDef)}
+                attributes |= {node.attr for node in ast.walk(one)
+                               if isinstance(node, ast.Attribute) and isinstance(node.ctx, ast.Store)}
+        self.assertEqual(methods & attributes, {"line"})
 
     def test_is_stands_beside_none_true_and_false(self):
         for name, tree in trees():

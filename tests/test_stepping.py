@@ -8,7 +8,7 @@ import oracle
 from boxoracle import states_in
 from randoms import Draw
 from samples import FALSE, ONE, TRUE, action, fact, number, whole
-from sureplan.boxes import box_of_state, in_box, lies_in
+from sureplan.boxes import box_of_state, common_box, in_box, lies_in
 from sureplan.meaning import try_step
 from sureplan.stepping import step_from
 from sureplan.tasks import Task
@@ -231,6 +231,24 @@ class DrawnTest(unittest.TestCase):
                 for index in range(len(task.all_steps())):
                     small = step_from(task, index, box_of_state(state))
                     self.assertTrue(small is None or lies_in(small[1], step_from(task, index, box)[1]))
+
+    def test_a_box_in_a_box(self):
+        # Levels and projections rely on it.
+        draw = Draw(random.Random(18))
+        found = 0
+        for _ in range(300):
+            task = draw.task()
+            box = draw.box(task)
+            inner = common_box(box, draw.box(task))
+            if inner is not None:
+                for index in range(len(task.all_steps())):
+                    small, great = step_from(task, index, inner), step_from(task, index, box)
+                    if small is not None:
+                        found += 1
+                        self.assertIsNotNone(great)
+                        self.assertGreaterEqual(small[0], great[0])
+                        self.assertTrue(lies_in(small[1], great[1]))
+        self.assertGreater(found, 50)
 
 
 if __name__ == "__main__":

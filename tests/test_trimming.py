@@ -107,6 +107,16 @@ class ReductionTest(unittest.TestCase):
         # The label 5 of the tree of the sum layer is not needed, as the lean layer has one itself.
         self.check(lines, [("sum",)] + LAST + [("lean",)] + short + [("claim", 7)])
 
+    def test_a_layer_that_only_what_is_left_out_needs(self):
+        # The third layer relies on the second one where b holds, the second one on the first one. The claim needs none
+        # of this; so a split of the third layer goes first, then the second layer, and then the first one.
+        lines = [("sum",), ("tree", 1, 1), ("fact", 0), label(0), ("fact", 1), ("number", 0, 4), label(5), label(3), label(0)]
+        lines += [("lean",), ("tree", 1, 1), ("fact", 0), label(0), ("fact", 1), ("number", 0, 3), label(7),
+                  ("number", 0, 4), label(5), label(0), label(0)]
+        last = [("lean",), ("tree", 1, 1), ("fact", 0), label(0), ("fact", 1)]
+        self.check(lines + last + [("number", 0, 2), label(9), label(0), label(3), ("claim", 3)],
+                   last + [label(0), label(3), ("claim", 3)])
+
     def test_trees_are_left_out_from_the_last_one(self):
         def third(v):
             return [("tree", 1, 3), ("share", 1, v, 3), ("fact", 0), label(0), label(v)]
