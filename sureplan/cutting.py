@@ -1,19 +1,8 @@
 """Cuts boxes by formulas (points 41 and 42)."""
 
 from sureplan.conditions import form_span, judged_ground
+from sureplan.entries import with_fact, with_number
 from sureplan.grounding import ground_formula
-
-
-def with_fact(box, index, entry):
-    """Returns the box with this entry for a fact."""
-    facts, spans = box
-    return (facts[:index] + (entry,) + facts[index + 1:], spans)
-
-
-def with_span(box, index, span):
-    """Returns the box with this span for a number."""
-    facts, spans = box
-    return (facts, spans[:index] + (span,) + spans[index + 1:])
 
 
 def cut_fact(box, index, wanted):
@@ -37,7 +26,7 @@ def cut_span(box, constant, index, factor):
     else:
         # The least value that is at least constant / -factor: the quotient is rounded up.
         low = max(low, -(constant // factor))
-    return with_span(box, index, (low, high)) if low <= high else None
+    return with_number(box, index, (low, high)) if low <= high else None
 
 
 def cut_inequality(box, form):

@@ -1,6 +1,6 @@
 """Grows trees that give single states their labels, and all other states the label 0."""
 
-from sureplan.cutting import with_fact, with_span
+from sureplan.entries import with_fact, with_number
 from sureplan.nesting import narrowing
 
 
@@ -30,7 +30,7 @@ def side_of(line, box, is_first):
     if line[0] == "fact":
         return with_fact(box, index, is_first)
     low, high = box[1][index]
-    return with_span(box, index, (low, line[2]) if is_first else (line[2] + 1, high))
+    return with_number(box, index, (low, line[2]) if is_first else (line[2] + 1, high))
 
 
 def is_first_side(line, state):

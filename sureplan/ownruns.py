@@ -25,12 +25,14 @@ class OwnRun:
         self.start = state
         self.kept = {}
         self.answers = []
+        self.befores = []
         self.last = state
         for position in range(len(steps)):
             answer = self.answer(self.last, position)
             if answer[0] == "not":
                 raise NotPossible(position, answer[1])
             self.answers.append(answer)
+            self.befores.append(self.last)
             self.last = answer[3]
 
     def answer(self, state, position):

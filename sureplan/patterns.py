@@ -1,7 +1,7 @@
 """Patterns: the facts and numbers that a projection tells apart (point 68)."""
 
 from sureplan.choices import choices
-from sureplan.cutting import with_fact, with_span
+from sureplan.entries import with_fact, with_number
 from sureplan.errors import BadValue, TooLarge
 from sureplan.names import is_integer
 
@@ -74,7 +74,7 @@ def part_of(pattern, chosen, box):
         if word == "fact":
             box = with_fact(box, index, option)
         else:
-            box = with_span(box, index, (option, option))
+            box = with_number(box, index, (option, option))
     return box
 
 

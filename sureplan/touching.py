@@ -58,6 +58,13 @@ def reads(task, step):
     return marks.lists()
 
 
+def written(grounded, state, step):
+    """Returns the lists of the facts and of the numbers that a step writes in a state in which it is possible."""
+    changes = Changes()
+    changes.collect(grounded.step(step).effects, state[0], state[1])
+    return (sorted(changes.facts), sorted(list(changes.settings) + list(changes.additions)))
+
+
 def writes(task, state, step):
     """Returns the lists of the facts and of the numbers that a step writes in a state."""
     check_state(task, state)
@@ -66,6 +73,4 @@ def writes(task, state, step):
     answer = attempt(grounded, state, step)
     if answer[0] == "not":
         raise NotPossible(0, answer[1])
-    changes = Changes()
-    changes.collect(grounded.step(step).effects, state[0], state[1])
-    return (sorted(changes.facts), sorted(list(changes.settings) + list(changes.additions)))
+    return written(grounded, state, step)

@@ -1,6 +1,6 @@
 """Trees that give states labels (points 48 and 49)."""
 
-from sureplan.cutting import with_fact, with_span
+from sureplan.entries import with_fact, with_number
 from sureplan.labels import is_less, lesser
 
 
@@ -69,8 +69,8 @@ class Tree:
             return [(place + 1, box)]
         if low > top:
             return [(self.seconds[place], box)]
-        return [(self.seconds[place], with_span(box, index, (top + 1, high))),
-                (place + 1, with_span(box, index, (low, top)))]
+        return [(self.seconds[place], with_number(box, index, (top + 1, high))),
+                (place + 1, with_number(box, index, (low, top)))]
 
     def leaves_in(self, box):
         """Returns the leaves that have something in common with a box, in their order.

@@ -1,5 +1,7 @@
 """Tasks and helpers that several test files use."""
 
+import unittest
+
 from sureplan.errors import BadTask
 from sureplan.tasks import Task
 
@@ -65,3 +67,18 @@ def trip():
     go = ("go", (), fact("home"), effects, whole(2), ONE, ())
     return Task(facts=(("home", ()), ("shop", ())), numbers=(("coins", (), 0, 9),), actions=(go,),
                 start=((("home", ()),), (("coins", (), 3),)), goal=fact("shop"))
+
+
+class FailingCase(unittest.TestCase):
+    """Tests of the errors of several functions that check the same arguments in the same way."""
+
+    functions = ()
+
+    def fails(self, error, *args):
+        """Returns the errors that the functions raise, all of them of this class."""
+        found = []
+        for function in type(self).functions:
+            with self.assertRaises(error) as caught:
+                function(*args)
+            found.append(caught.exception)
+        return found

@@ -35,6 +35,12 @@ FUNCTIONS = {
                "pair_witnesses": "task, steps, state"},
     "purposes": {"purposes": "task, steps, state", "cheapest_part": "task, steps, state"},
     "touching": {"formula_reads": "task, formula", "reads": "task, step", "writes": "task, state, step"},
+    "schedules": {"uses": "task, step", "disturbing_pairs": "task, steps, state",
+                  "is_schedule": "task, steps, state, starts", "schedule": "task, steps, state"},
+    "soonest": {"soonest_certificate": "task, steps, state", "accepts_soonest": "task, steps, state, time, lines"},
+    "watching": {"works": "task, steps, state", "after_seen": "task, seen, state", "threats": "task, steps, state"},
+    "needed": {"needed": "task, steps", "follow": "tree, state"},
+    "repair": {"edit_count": "old, new", "kept_positions": "old, new", "repair": "task, steps, state=None"},
 }
 METHODS = {
     "all_facts": "", "all_numbers": "", "all_resources": "", "all_steps": "", "objects_of": "kind",

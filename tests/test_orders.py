@@ -6,7 +6,7 @@ from itertools import permutations
 
 import orderoracle
 from randoms import Draw, Lively
-from samples import ONE, TRUE, action, fact, number, whole
+from samples import ONE, TRUE, FailingCase, action, fact, number, whole
 from sureplan.errors import BadValue, NotPossible, TooLarge
 from sureplan.meaning import try_step
 from sureplan.orders import goes_alike, kept_pairs, pair_witnesses
@@ -212,18 +212,10 @@ class PairsTest(unittest.TestCase):
         self.check(task, [0, 1], [(0, 1)], 1, [[1, 0]])
 
 
-class ErrorsTest(unittest.TestCase):
+class ErrorsTest(FailingCase):
     """Point 75."""
 
     functions = (lambda task, steps, state: goes_alike(task, steps, state, None), kept_pairs, pair_witnesses)
-
-    def fails(self, error, task, steps, state):
-        found = []
-        for function in type(self).functions:
-            with self.assertRaises(error) as caught:
-                function(task, steps, state)
-            found.append(caught.exception)
-        return found
 
     def test_wrong_steps(self):
         task = worker(MAKE_A, MAKE_B)

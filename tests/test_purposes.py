@@ -6,7 +6,7 @@ import unittest
 import oracle
 import orderoracle
 from randoms import lively_case
-from samples import FALSE, ONE, TRUE, fact, number, whole
+from samples import FALSE, ONE, TRUE, FailingCase, fact, number, whole
 from sureplan.errors import BadValue, NotPossible, TooLarge
 from sureplan.purposes import cheapest_part, purposes
 from sureplan.running import run
@@ -153,18 +153,10 @@ class CheapestPartTest(unittest.TestCase):
             self.assertEqual(function(task, steps, START), before)
 
 
-class ErrorsTest(unittest.TestCase):
+class ErrorsTest(FailingCase):
     """Point 75: the errors in their order."""
 
     functions = (purposes, cheapest_part)
-
-    def fails(self, error, task, steps, state):
-        found = []
-        for function in self.functions:
-            with self.assertRaises(error) as caught:
-                function(task, steps, state)
-            found.append(caught.exception)
-        return found
 
     def test_wrong_steps(self):
         task = worker(MAKE_A, MAKE_B, goal=FALSE)

@@ -1,0 +1,109 @@
+"""Ways through the reached states that change a list of steps into a plan (point 98).
+
+A way stands at a place (the place of a state) and at a position of the list. It goes on to the next position if it
+deletes the step there, to another place if it inserts a step, and both if it keeps the step. What it takes is counted
+as one integer: an edit counts more than any number of steps, and a step counts 1.
+"""
+
+from heapq import heappop, heappush
+
+EDIT = 1000000
+KEEP = 1
+INSERT = EDIT + 1
+
+
+def places_before(arcs):
+    """Returns for each place the places from which an arc leads to it, each once."""
+    into = [[] for _ in arcs]
+    for place, leaving in enumerate(arcs):
+        for target in sorted({arc[1] for arc in leaving}):
+            into[target].append(place)
+    return into
+
+
+class EditWays:
+    """The ways that take the least from each place and position to the end of the list at one of the ends.
+
+    The arcs are pairs (step, place) for each place, in ascending order of the steps.
+    """
+
+    def __init__(self, old, arcs, ends):
+        self.old = old
+        self.arcs = arcs
+        self.into = places_before(arcs)
+        self.rows = [self.with_insertions([0 if place in ends else None for place in range(len(arcs))])]
+        for step in reversed(old):
+            self.rows.append(self.with_insertions(self.row_before(step)))
+        self.rows.reverse()
+
+    def row_before(self, step):
+        """Returns what each place takes if the step before the last row is deleted or kept there."""
+        behind = self.rows[-1]
+        found = [None if taken is None else taken + EDIT for taken in behind]
+        for place, leaving in enumerate(self.arcs):
+            for other, target in leaving:
+                if other == step and behind[target] is not None:
+                    kept = behind[target] + KEEP
+                    found[place] = kept if found[place] is None else min(found[place], kept)
+        return found
+
+    def with_insertions(self, row):
+        """Returns what each place takes if steps may be inserted first."""
+        found = list(row)
+        queue = []
+        for place, taken in enumerate(row):
+            if taken is not None:
+                heappush(queue, (taken, place))
+        while queue:
+            taken, place = heappop(queue)
+            if found[place] == taken:
+                for before in self.into[place]:
+                    if found[before] is None or taken + INSERT < found[before]:
+                        found[before] = taken + INSERT
+                        heappush(queue, (taken + INSERT, before))
+        return found
+
+    def is_least(self, here, behind, taken):
+        """Tells if a way that takes so much between two pairs of a position and a place takes the least."""
+        before, left = self.rows[here[0]][here[1]], self.rows[behind[0]][behind[1]]
+        return left is not None and before == left + taken
+
+    def after_deletions(self, positions, place):
+        """Returns the positions together with those to which least ways lead that delete steps first."""
+        found = {}
+        for start in positions:
+            position = start
+            found[position] = True
+            while position < len(self.old) and self.is_least((position, place), (position + 1, place), EDIT):
+                position += 1
+                found[position] = True
+        return sorted(found)
+
+    def after_step(self, positions, place, arc):
+        """Returns the positions at which least ways from a place and one of the positions stand after an arc."""
+        step, target = arc
+        found = {}
+        for position in positions:
+            if position < len(self.old) and self.old[position] == step:
+                if self.is_least((position, place), (position + 1, target), KEEP):
+                    found[position + 1] = True
+            if self.is_least((position, place), (position, target), INSERT):
+                found[position] = True
+        return self.after_deletions(sorted(found), target)
+
+    def first_arc(self, positions, place):
+        """Returns the arc with the least step that least ways take, and the positions after it."""
+        for arc in self.arcs[place]:
+            after = self.after_step(positions, place, arc)
+            if after:
+                return (arc, after)
+        return None
+
+    def first_steps(self, place):
+        """Returns the steps of the first of the plans that take the least from a place and the whole list."""
+        steps = []
+        positions = self.after_deletions([0], place)
+        for _ in range(self.rows[0][place] % EDIT):
+            (step, place), positions = self.first_arc(positions, place)
+            steps.append(step)
+        return steps
