@@ -124,10 +124,10 @@ def check_nodes(declared, where, category, nodes, scope):
         raise BadTask(where, "wide")
 
 
-def is_valid(declared, category, node):
-    """Tells if the value is a formula or an amount without free variables."""
+def first_problem(declared, category, node):
+    """Returns the first problem of a formula or an amount without free variables, or None."""
     try:
         check_nodes(declared, (), category, (node,), {})
-    except BadTask:
-        return False
-    return True
+    except BadTask as bad:
+        return bad.why
+    return None

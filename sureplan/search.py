@@ -56,18 +56,22 @@ def next_arc(arcs, found, place):
     return None
 
 
-def first_plan(task, state, goal=None):
-    """Returns the tuple (cost, steps) of the first plan, or None if there is no plan."""
-    check_state(task, state)
-    goal = ground_formula(task, checked_goal(task, goal), {})
-    explored = Explored(Grounded(task), state)
-    arcs = explored.arcs
-    found = distances(arcs, goal_places(goal, explored.states))
-    if found[0] is None:
-        return None
+def first_steps(arcs, found):
+    """Returns the steps of the first one of the least ways from place 0."""
     steps = []
     place = 0
     while found[place][1] > 0:
         step, _, place = next_arc(arcs, found, place)
         steps.append(step)
-    return (found[0][0], steps)
+    return steps
+
+
+def first_plan(task, state, goal=None):
+    """Returns the tuple (cost, steps) of the first plan, or None if there is no plan."""
+    check_state(task, state)
+    goal = ground_formula(task, checked_goal(task, goal), {})
+    explored = Explored(Grounded(task), state)
+    found = distances(explored.arcs, goal_places(goal, explored.states))
+    if found[0] is None:
+        return None
+    return (found[0][0], first_steps(explored.arcs, found))

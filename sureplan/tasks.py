@@ -6,7 +6,7 @@ from sureplan.choices import binding_of, choices
 from sureplan.declared import Declared
 from sureplan.errors import BadValue
 from sureplan.names import is_integer, is_strings
-from sureplan.nodes import is_valid
+from sureplan.nodes import call_problem, first_problem
 from sureplan.parts import check_facts, check_kinds, check_numbers, check_objects, check_resources
 
 
@@ -178,11 +178,20 @@ class Task:
 
     def is_formula(self, formula):
         """Tells if the value is a formula of the task without free variables."""
-        return is_valid(self._declared, "formula", formula)
+        return self.node_problem("formula", formula) is None
 
     def is_amount(self, amount):
         """Tells if the value is an amount of the task without free variables."""
-        return is_valid(self._declared, "amount", amount)
+        return self.node_problem("amount", amount) is None
+
+    def node_problem(self, category, node):
+        """Returns the first problem of a formula or an amount without free variables, or None."""
+        return first_problem(self._declared, category, node)
+
+    def name_problem(self, word, name, args):
+        """Returns the problem of the name and the objects of a fact, a number or a step (the word), or None."""
+        tables = {"fact": self._declared.facts, "number": self._declared.numbers, "step": self._declared.actions}
+        return call_problem(self._declared, tables[word], name, args, {})
 
     def _bound(self, step):
         """Returns the action of a step, and what its parameters stand for."""

@@ -15,7 +15,7 @@ LIBRARY = {
 CALLED_BUILTINS = {
     "len", "range", "enumerate", "zip", "min", "max", "sum", "abs", "sorted", "reversed", "int", "str", "bool", "list",
     "tuple", "dict", "set", "isinstance", "ord", "repr", "any", "all", "divmod", "pow", "map", "iter", "next", "Exception",
-    "ValueError", "TypeError", "KeyError", "IndexError", "LookupError", "NotImplementedError",
+    "ValueError", "TypeError", "KeyError", "IndexError", "LookupError", "NotImplementedError", "property",
 }
 BARRED = {"register", "mro", "elements", "open", "input", "law", "version_info", "with_traceback", "add_note"}
 METHODS = {
@@ -165,6 +165,15 @@ class StatementsTest(unittest.TestCase):
                 self.assertNotIsInstance(node, self.barred, name)
                 if isinstance(node, ast.Constant):
                     self.assertNotIsInstance(node.value, (float, complex, bytes), name)
+
+    def test_decorators(self):
+        for name, tree in trees():
+            decorators = [one for node in ast.walk(tree) if isinstance(node, (ast.FunctionDef, ast.ClassDef))
+                          for one in node.decorator_list]
+            for one in decorators:
+                self.assertEqual(one.id, "property", name)
+            named = [node for node in ast.walk(tree) if isinstance(node, ast.Name) and node.id == "property"]
+            self.assertEqual(named, decorators, name)
 
     def test_attributes_are_assigned_through_local_names(self):
         for name, tree in trees():
