@@ -41,6 +41,16 @@ FUNCTIONS = {
     "watching": {"works": "task, steps, state", "after_seen": "task, seen, state", "threats": "task, steps, state"},
     "needed": {"needed": "task, steps", "follow": "tree, state"},
     "repair": {"edit_count": "old, new", "kept_positions": "old, new", "repair": "task, steps, state=None"},
+    "wishes": {"held_wishes": "task, wishes, state", "worth_of": "task, wishes, state",
+               "wish_goal": "task, wishes, least", "best_wishes": "task, wishes, budget=None, state=None"},
+    "scanning": {"scan": "text", "end_of": "text", "is_integer_text": "word"},
+    "forms": {"parse_commands": "text", "parse_form": "text"},
+    "reading": {"read_task": "text", "read_formula": "task, text", "read_amount": "task, text",
+                "read_state": "task, text", "read_seen": "task, text", "read_step": "task, text",
+                "read_steps": "task, text", "read_lines": "text"},
+    "writing": {"task_text": "task", "formula_text": "task, formula", "amount_text": "task, amount",
+                "state_text": "task, state", "seen_text": "task, seen", "step_text": "task, step",
+                "steps_text": "task, steps", "lines_text": "lines"},
 }
 METHODS = {
     "all_facts": "", "all_numbers": "", "all_resources": "", "all_steps": "", "objects_of": "kind",
@@ -48,6 +58,10 @@ METHODS = {
     "step_index": "action, args", "start_state": "", "condition_of": "step", "effects_of": "step", "cost_of": "step",
     "time_of": "step", "uses_of": "step", "is_step": "step", "is_state": "state", "is_formula": "formula",
     "is_amount": "amount",
+}
+DESK_METHODS = {
+    "walked": "", "at_goal": "", "go": "steps", "observe": "seen", "restart": "state=None", "undo": "", "plan": "",
+    "pursue": "most=100", "copy": "",
 }
 
 
@@ -89,6 +103,19 @@ class InterfaceTest(unittest.TestCase):
         for name, expected in (("line", "line"), ("claim", "")):
             self.assertIn(name, vars(judge))
             self.assertEqual(", ".join(list(inspect.signature(vars(judge)[name]).parameters)[1:]), expected)
+
+    def test_desk(self):
+        desk = self.module("desk").Desk
+        self.assertEqual(desk.__module__, "sureplan.desk")
+        self.assertEqual(arguments(desk), "task")
+        for name, expected in DESK_METHODS.items():
+            self.assertIn(name, vars(desk))
+            self.assertEqual(arguments(vars(desk)[name]), "self, " + expected if expected else "self")
+        for name in ("current", "cost"):
+            self.assertIsInstance(vars(desk)[name], property)
+        task = self.module("tasks").Task()
+        self.assertIs(desk(task).task, task)
+        self.assertEqual(desk(task).searches, 0)
 
 
 if __name__ == "__main__":
