@@ -84,7 +84,7 @@ class NeededTest(unittest.TestCase):
 
     def test_drawn_rests(self):
         sizes = {}
-        for seed in range(200):
+        for seed in range(120):
             source = random.Random(seed)
             for _ in range(8):
                 task, steps, _ = drawn_rest(source, 3)
@@ -97,7 +97,7 @@ class NeededTest(unittest.TestCase):
                 self.assertEqual(needed(task, steps), expected, seed)
                 for state in source.choices(list(restoracle.all_states(task)), k=4):
                     self.assertEqual(follow(expected, state), works(task, steps, state) is None, seed)
-        self.assertGreater(sizes[True], 30)
+        self.assertGreater(sizes[True], 20)
 
     def test_the_form_of_drawn_trees(self):
         """Point 94, read off the nodes."""
