@@ -37,7 +37,7 @@ def longest_chain(order, times):
     """Returns the total time of the longest chain of positions that come one after another, and these positions."""
     found = [None for _ in times]
     # What comes after a position has some of its bits only, so it has been treated before this position.
-    for position in sorted(range(len(times)), key=lambda position: order[position]):
+    for position in sorted(range(len(times)), key=lambda one: order[one]):
         behind = max([found[other] for other in range(len(times)) if comes_after(order, position, other)],
                      default=(0, ()))
         found[position] = (behind[0] + times[position], (position,) + behind[1])

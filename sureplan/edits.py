@@ -9,14 +9,14 @@ from heapq import heappop, heappush
 
 EDIT = 1000000
 KEEP = 1
-INSERT = EDIT + 1
+INSERT = 1000001
 
 
 def places_before(arcs):
     """Returns for each place the places from which an arc leads to it, each once."""
     into = [[] for _ in arcs]
     for place, leaving in enumerate(arcs):
-        for target in sorted({arc[1] for arc in leaving}):
+        for target in sorted({leaving[step] for step in leaving}):
             into[target].append(place)
     return into
 
@@ -24,36 +24,41 @@ def places_before(arcs):
 class EditWays:
     """The ways that take the least from each place and position to the end of the list at one of the ends.
 
-    The arcs are pairs (step, place) for each place, in ascending order of the steps.
+    For each place, the arcs give the places to which its steps lead, in ascending order of the steps.
     """
 
     def __init__(self, old, arcs, ends):
         self.old = old
         self.arcs = arcs
         self.into = places_before(arcs)
-        self.rows = [self.with_insertions([0 if place in ends else None for place in range(len(arcs))])]
+        last = [None for _ in arcs]
+        for place in ends:
+            last[place] = 0
+        self.rows = [self.with_insertions(last, ends)]
         for step in reversed(old):
-            self.rows.append(self.with_insertions(self.row_before(step)))
+            self.rows.append(self.row_before(step))
         self.rows.reverse()
 
     def row_before(self, step):
-        """Returns what each place takes if the step before the last row is deleted or kept there."""
+        """Returns what each place takes at the position of a step, which is before that of the last row."""
         behind = self.rows[-1]
         found = [None if taken is None else taken + EDIT for taken in behind]
+        keeping = []
         for place, leaving in enumerate(self.arcs):
-            for other, target in leaving:
-                if other == step and behind[target] is not None:
-                    kept = behind[target] + KEEP
-                    found[place] = kept if found[place] is None else min(found[place], kept)
-        return found
+            target = leaving.get(step)
+            if target is not None and behind[target] is not None:
+                # A step that can be kept could also be deleted and inserted, so there is a value already.
+                found[place] = min(found[place], behind[target] + KEEP)
+                keeping.append(place)
+        # Inserting steps before the others saves nothing, since it saved nothing behind the deleted step.
+        return self.with_insertions(found, keeping)
 
-    def with_insertions(self, row):
-        """Returns what each place takes if steps may be inserted first."""
+    def with_insertions(self, row, places):
+        """Returns what each place takes if steps may be inserted before one of some places is reached."""
         found = list(row)
         queue = []
-        for place, taken in enumerate(row):
-            if taken is not None:
-                heappush(queue, (taken, place))
+        for place in places:
+            heappush(queue, (found[place], place))
         while queue:
             taken, place = heappop(queue)
             if found[place] == taken:
@@ -79,9 +84,9 @@ class EditWays:
                 found[position] = True
         return sorted(found)
 
-    def after_step(self, positions, place, arc):
-        """Returns the positions at which least ways from a place and one of the positions stand after an arc."""
-        step, target = arc
+    def after_step(self, positions, place, step):
+        """Returns the positions at which least ways from a place and one of the positions stand after a step."""
+        target = self.arcs[place][step]
         found = {}
         for position in positions:
             if position < len(self.old) and self.old[position] == step:
@@ -91,12 +96,12 @@ class EditWays:
                 found[position] = True
         return self.after_deletions(sorted(found), target)
 
-    def first_arc(self, positions, place):
-        """Returns the arc with the least step that least ways take, and the positions after it."""
-        for arc in self.arcs[place]:
-            after = self.after_step(positions, place, arc)
+    def first_step(self, positions, place):
+        """Returns the least step that least ways take, and the positions after it."""
+        for step in self.arcs[place]:
+            after = self.after_step(positions, place, step)
             if after:
-                return (arc, after)
+                return (step, after)
         return None
 
     def first_steps(self, place):
@@ -104,6 +109,7 @@ class EditWays:
         steps = []
         positions = self.after_deletions([0], place)
         for _ in range(self.rows[0][place] % EDIT):
-            (step, place), positions = self.first_arc(positions, place)
+            step, positions = self.first_step(positions, place)
+            place = self.arcs[place][step]
             steps.append(step)
         return steps

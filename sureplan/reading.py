@@ -2,7 +2,7 @@
 
 from sureplan.commands import Commands
 from sureplan.errors import BadValue
-from sureplan.formparts import (is_list, read_behind, read_first, read_integer, read_list, read_words, refuse)
+from sureplan.formparts import is_list, read_behind, read_first, read_integer, read_list, read_words, refuse
 from sureplan.forms import parse_commands, parse_form
 from sureplan.items import read_items
 from sureplan.nodereading import read_node

@@ -44,15 +44,15 @@ def kept_positions(old, new):
 
 
 def least_arcs(arcs, found):
-    """Returns for each place that plans of least cost lead to the pairs (step, place) with which they go on."""
-    least = [[] for _ in arcs]
+    """Returns for each place that plans of least cost lead to the steps with which they go on, and where these lead."""
+    least = [{} for _ in arcs]
     places = [0]
     reached = {0: True}
     while places:
         place = places.pop()
         for step, cost, target in arcs[place]:
             if found[target] is not None and found[target][0] + cost == found[place][0]:
-                least[place].append((step, target))
+                least[place][step] = target
                 if target not in reached:
                     reached[target] = True
                     places.append(target)
@@ -67,6 +67,6 @@ def repair(task, steps, state=None):
     found = distances(explored.arcs, ends)
     if found[0] is None:
         return None
-    ways = EditWays(steps, least_arcs(explored.arcs, found), {place: True for place in ends})
+    ways = EditWays(steps, least_arcs(explored.arcs, found), ends)
     plan = ways.first_steps(0)
     return (found[0][0], plan, kept_positions(steps, plan))

@@ -6,9 +6,6 @@ from sureplan.names import is_integer, is_name
 from sureplan.nodewriting import call_text, listed, node_text, variables_text
 from sureplan.watching import check_seen
 
-# An exponent is at most 64.
-BEYOND_100_DIGITS = 10 ** 50 * 10 ** 50
-
 
 def value_text(name, args, value):
     """Returns the text of an item that says the value of a number."""
@@ -42,8 +39,8 @@ def step_line(call):
 
 
 def is_label(value):
-    """Tells if the value may stand in a line behind its word."""
-    return value is None or is_integer(value) and abs(value) < BEYOND_100_DIGITS
+    """Tells if the value may stand in a line behind its word: it is None, or has at most 100 digits."""
+    return value is None or is_integer(value) and abs(value) < 10 ** 50 * 10 ** 50
 
 
 def is_line(line):
