@@ -24,7 +24,8 @@ def places_before(arcs):
 class EditWays:
     """The ways that take the least from each place and position to the end of the list at one of the ends.
 
-    For each place, the arcs give the places to which its steps lead, in ascending order of the steps.
+    For each place, the arcs give the places to which its steps lead, in ascending order of the steps. From all of these
+    places some end can be reached.
     """
 
     def __init__(self, old, arcs, ends):
@@ -46,7 +47,7 @@ class EditWays:
         keeping = []
         for place, leaving in enumerate(self.arcs):
             target = leaving.get(step)
-            if target is not None and behind[target] is not None:
+            if target is not None:
                 # A step that can be kept could also be deleted and inserted, so there is a value already.
                 found[place] = min(found[place], behind[target] + KEEP)
                 keeping.append(place)
@@ -70,8 +71,7 @@ class EditWays:
 
     def is_least(self, here, behind, taken):
         """Tells if a way that takes so much between two pairs of a position and a place takes the least."""
-        before, left = self.rows[here[0]][here[1]], self.rows[behind[0]][behind[1]]
-        return left is not None and before == left + taken
+        return self.rows[here[0]][here[1]] == self.rows[behind[0]][behind[1]] + taken
 
     def after_deletions(self, positions, place):
         """Returns the positions together with those to which least ways lead that delete steps first."""

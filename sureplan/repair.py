@@ -33,11 +33,10 @@ def kept_positions(old, new):
     kept = []
     place = 0
     for position, step in enumerate(old):
-        left = lengths[position][place]
-        if left > 0 and step in new[place:]:
+        if step in new[place:]:
             # The first place of the step leaves the most behind it.
             behind = new.index(step, place) + 1
-            if lengths[position + 1][behind] + 1 == left:
+            if lengths[position + 1][behind] + 1 == lengths[position][place]:
                 kept.append(position)
                 place = behind
     return kept

@@ -14,7 +14,7 @@ def is_index(value, many):
 
 def is_entry(task, entry):
     """Tells if the value has the form of an entry of what was seen."""
-    if not isinstance(entry, tuple) or len(entry) != 3 or not isinstance(entry[0], str):
+    if not isinstance(entry, tuple) or len(entry) != 3:
         return False
     word, index, given = entry
     if word == "fact":

@@ -2,6 +2,7 @@
 
 import random
 import unittest
+from unittest import mock
 
 import oracle
 import restoracle
@@ -277,6 +278,23 @@ class PlanTest(unittest.TestCase):
         desk.observe((("fact", 0, True),))
         desk.plan()
         self.assertEqual(desk.searches, 3)
+
+    def test_it_never_searches_twice(self):
+        searched = []
+
+        def counting(task, state):
+            searched.append(state)
+            return first_plan(task, state)
+        with mock.patch("sureplan.desk.first_plan", counting):
+            for goal in (("eq", N, whole(2)), FALSE):
+                desk = Desk(counter(9, goal))
+                for _ in range(2):
+                    desk.plan()
+                    desk.pursue()
+                    desk.copy().plan()
+                    desk.restart()
+                self.assertEqual(len(searched), desk.searches + (goal != FALSE) * 2)
+                searched.clear()
 
     def test_plans_that_do_not_exist(self):
         desk = Desk(counter(9, fact("a")))

@@ -138,7 +138,8 @@ class SeenTest(unittest.TestCase):
     def test_wrong_forms(self):
         task = worker()
         for entry in (None, (), "fact", ["fact", 0, True], ("fact",), ("fact", 0), ("fact", 0, True, 1), ("facts", 0, True),
-                      ("Fact", 0, True), (0, 0, True), (None, 0, 0), (["fact"], 0, True), ({}, 0, True), (("fact",), 0, True),
+                      ("Fact", 0, True), (0, 0, True), (None, 0, 0), ("facts", 0, 5), ("numbers", 0, 5), ("Number", 0, 5), ("", 0, 5),
+                      (["fact"], 0, True), ({}, 0, True), (("fact",), 0, True),
                       ("fact", 0, 1), ("fact", 0, 0), ("fact", 0, None), ("fact", 0, "True"), ("fact", True, True),
                       ("fact", False, True), ("fact", -1, True), ("fact", 3, True), ("fact", "0", True), ("fact", None, True),
                       ("fact", 0.0, True), ("fact", [0], True), ("number", 0, True), ("number", 0, False),
