@@ -111,7 +111,16 @@ class AcceptsTest(unittest.TestCase):
             self.assertFalse(accepts(task, 0, [line]), line)
         # A step that by itself uses more than there is: it cannot be under way beside any other one.
         self.assertTrue(accepts(shop([1], (1, 2), (1, 0)), 0, [("apart", (0, 1))] + chains))
+        self.assertFalse(accepts(shop([1], (1, 2), (1, 0)), 0, [("apart", (0,))]))
         self.assertFalse(accepts(shop([1], (1, 2), (1, 0)), 0, [("apart", (0,))] + chains))
+
+    def test_lines_of_other_kinds(self):
+        task = crews()
+        for line in (None, 0, "chain", (), ("chain",), ("chain", (), ()), ["chain", ()], ("chain", []), ("chain", None),
+                     ("chain", 0), ("chain", "0"), ("chain", ("0",)), ("chain", (True,)), ("chain", (None,)), ("chain", ((),)),
+                     (None, ()), (0, ()), ("chain", (0.0,))):
+            self.assertFalse(accepts_soonest(task, [0, 1, 2], task.start_state(), 0, [line]), line)
+            self.assertFalse(accepts_soonest(task, [0, 1, 2], task.start_state(), 0, [("chain", ()), line]), line)
 
     def test_too_few_and_too_many_lines(self):
         task = crews()
