@@ -66,7 +66,7 @@ class ParametersTest(unittest.TestCase):
     def test_name(self):
         self.assertIsNone(self.of(("?" + "a" * 24, "Truck")))
         self.assertIsNone(self.of(("?true", "Truck")))
-        for name in ("x", "?", "", "?X", "??x", "?1", "?" + "a" * 25, "? x"):
+        for name in ("x", "xy", "a?b", "?", "", "?X", "??x", "?1", "?" + "a" * 25, "? x"):
             self.assertEqual(self.of((name, "Nobody")), "name")
 
     def test_duplicate_and_kind(self):
@@ -184,6 +184,10 @@ class UsesTest(unittest.TestCase):
             self.assertEqual(self.of(("dock", ("?p",), amount)), "range")
         self.assertEqual(self.of(("crew", (), 0), None), "range")
         self.assertEqual(self.of(None, ("crew", (), 0)), "form")
+        # Every use is checked, not the first one alone.
+        self.assertEqual(self.of(crew, ("crew", (), 0)), "range")
+        self.assertEqual(self.of(crew, crew, None), "form")
+        self.assertEqual(self.of(crew, crew, crew, ("dock", ("?q",), 1)), "unknown")
 
     def test_more_than_the_capacity_may_be_used(self):
         self.assertIsNone(self.of(("crew", (), 4)))

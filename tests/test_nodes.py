@@ -117,7 +117,8 @@ class ArgumentsTest(unittest.TestCase):
             five = tuple((f"?x{k}", "Nobody") for k in range(5))
             self.assertEqual(why_of((word, five, None)), "count")
             self.assertIsNone(why_of((word, tuple((f"?x{k}", "Van") for k in range(4)), TRUE)))
-            self.assertEqual(why_of((word, (("x", "Nobody"),), None)), "name")
+            for name in ("x", "home", "?", "?X", "?" + "a" * 25):
+                self.assertEqual(why_of((word, ((name, "Nobody"),), None)), "name")
             self.assertEqual(why_of((word, (("?x", "Thing"), ("?x", "Nobody")), None)), "duplicate")
             self.assertEqual(why_of((word, (("?x", "Nobody"), ("x", "Thing")), None)), "kind")
             self.assertEqual(why_of((word, X, (word, X, None))), "duplicate")

@@ -165,6 +165,18 @@ class CostsTest(unittest.TestCase):
         self.assertEqual(costs(task, [[("number", 0)]])[0][0], 9)
         self.assertEqual(costs(task, [[("number", 0)], [("number", 0)]])[1], [0] * 9)
 
+    def test_the_greatest_quotient_wherever_it_stands(self):
+        # The step saves all of its cost 4 from one of the values 0 and 1 of n, and 1 of it from the other one.
+        for cheap_at, cheap_cost in ((1, 1), (0, 5)):
+            step = action("step", effects=(("add", "n", (), ONE), ("make", "b", ())), cost=whole(4))
+            cheap = action("cheap", condition=("eq", N, whole(cheap_at)), cost=whole(cheap_cost),
+                           effects=(("set", "n", (), whole(2)),))
+            task = Task(facts=(("a", ()), ("b", ())), numbers=(("n", (), 0, 2),), actions=(step, cheap),
+                        goal=("and", (("eq", N, whole(2)), fact("b"))))
+            # Nothing of the step is left for the second pattern.
+            self.assertEqual(costs(task, [[("number", 0)], [("fact", 1)]]), [[5, 4 - 3 * cheap_at, 0], [0, 0]])
+            self.assertEqual(costs(task, [[("fact", 1)]]), [[0, 4]])
+
     def test_a_way_to_several_parts(self):
         # The box after the step leaves b open in the projection to n and b.
         luck = action("luck", effects=(("when", fact("a"), (("make", "b", ()),)),), cost=whole(2))
