@@ -30,20 +30,20 @@ class Asking:
         self.rest = rest
         self.ranges = ranges
         facts, numbers = rest.marks()
-        self.items = [("fact", fact) for fact in facts] + [("number", number) for number in numbers]
+        self.asked = [("fact", fact) for fact in facts] + [("number", number) for number in numbers]
 
     def count_cases(self):
         many = 1
-        for word, index in self.items:
+        for word, index in self.asked:
             low, high = (0, 1) if word == "fact" else self.ranges[index]
             many = many * (high - low + 1)
         return many
 
     def tree_from(self, state, place):
-        """Returns the tree that asks for the items from a place on; those before it are as in the state."""
-        if place == len(self.items):
+        """Returns the tree that asks for what is asked from a place on; what stands before is as in the state."""
+        if place == len(self.asked):
             return [("leaf", self.rest.fault(state) is None)]
-        word, index = self.items[place]
+        word, index = self.asked[place]
         if word == "number":
             return self.number_tree(state, place, index)
         first = self.tree_from(with_fact(state, index, True), place + 1)

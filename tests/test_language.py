@@ -1,4 +1,4 @@
-"""The rules of the language subset that can be read off the files: L1, L2, L3, L10, L14 to L17 and others."""
+"""The rules of the language subset that can be read off the files: L1, L2, L3, L10, L14 to L17, L26 and others."""
 
 import ast
 import builtins
@@ -23,6 +23,19 @@ METHODS = {
     "isdigit", "islower", "isspace", "isupper", "items", "join", "keys", "ljust", "lower", "lstrip", "partition", "pop",
     "remove", "replace", "reverse", "rfind", "rjust", "rpartition", "rsplit", "rstrip", "setdefault", "split",
     "splitlines", "startswith", "strip", "update", "upper", "values", "zfill", "bit_length", "sort", "add", "discard",
+}
+# L26 excludes what builtin values have, and names these; not every Python has all of them.
+EXCLUDED_ATTRIBUTES = {
+    "items", "keys", "values", "pop", "update", "append", "clear", "extend", "insert", "remove", "reverse",
+    "setdefault", "sort", "args", "encode", "decode", "hex", "fromhex", "format", "as_integer_ratio", "bit_count",
+    "conjugate", "from_bytes", "is_integer", "to_bytes",
+}
+BUILTIN_ATTRIBUTES = EXCLUDED_ATTRIBUTES | {
+    name for kind in (str, int, float, bool, list, dict, set, frozenset, bytes, tuple) for name in dir(kind)
+    if not name.startswith("__")
+}
+ALLOWED_ATTRIBUTES = {
+    "count", "index", "title", "find", "get", "join", "lower", "upper", "split", "strip", "copy", "add",
 }
 
 
@@ -50,6 +63,27 @@ def bound_names(node):
     if isinstance(node, ast.ExceptHandler) and node.name:
         return [node.name]
     return [alias.asname or alias.name for alias in node.names] if isinstance(node, ast.ImportFrom) else []
+
+
+def stored_names(node):
+    """The names that a statement in the body of a class gives to the class, except plain methods."""
+    if isinstance(node, ast.FunctionDef):
+        return [node.name] if node.decorator_list else []
+    return [part.id for part in ast.walk(node) if isinstance(part, ast.Name) and isinstance(part.ctx, ast.Store)]
+
+
+def wrong_attributes(tree):
+    """The rows and names of attributes that L26 excludes, and of properties and class values that L5 excludes."""
+    called = {node.func for node in ast.walk(tree) if isinstance(node, ast.Call)}
+    found = []
+    for node in ast.walk(tree):
+        if isinstance(node, ast.Attribute) and not (isinstance(node.ctx, ast.Load) and node in called):
+            if node.attr in BUILTIN_ATTRIBUTES - ALLOWED_ATTRIBUTES:
+                found.append((node.lineno, node.attr))
+        if isinstance(node, ast.ClassDef):
+            given = [(part.lineno, one) for part in node.body for one in stored_names(part)]
+            found += [(row, one) for row, one in given if one in BUILTIN_ATTRIBUTES]
+    return sorted(found)
 
 
 class FilesTest(unittest.TestCase):
@@ -215,6 +249,45 @@ class StatementsTest(unittest.TestCase):
             for node in ast.walk(tree):
                 if isinstance(node, ast.GeneratorExp):
                     self.assertIn(node, good, (name, node.lineno))
+
+
+class OwnNamesTest(unittest.TestCase):
+    """L26, and what finds names against it."""
+
+    def found_in(self, text):
+        return [name for _, name in wrong_attributes(ast.parse(text))]
+
+    def test_no_attribute_has_an_excluded_name(self):
+        for name, tree in trees():
+            self.assertEqual(wrong_attributes(tree), [], name)
+
+    def test_no_method_has_an_excluded_name(self):
+        for name, tree in trees():
+            for one in [node for node in ast.walk(tree) if isinstance(node, ast.ClassDef)]:
+                methods = {node.name for node in one.body if isinstance(node, ast.FunctionDef)}
+                self.assertEqual(methods & (BUILTIN_ATTRIBUTES - (METHODS - {"sort"})), set(), name)
+
+    def test_each_excluded_name_would_be_found_in_each_file(self):
+        names = sorted(EXCLUDED_ATTRIBUTES | {"discard", "partition", "real", "union"})
+        rows = "".join(f"        self.{one} = given\n" for one in names)
+        for name in files():
+            added = f"\n\nclass Added:\n    def __init__(self, given):\n{rows}"
+            self.assertEqual(self.found_in(text_of(name) + added), names, name)
+
+    def test_an_excluded_name_would_be_found_wherever_it_is_given(self):
+        for row in ("self.items = 1", "box.items = 1", "self.items: int = 1", "self.items += 1", "a = self.items = 1",
+                    "a, self.items = 1, 2", "a, (b, *self.items) = x", "for self.items in x: pass",
+                    "return self.items", "return self.items[0]", "return self.items.count", "return len(self.items)",
+                    "return [one for one in self.items]"):
+            self.assertEqual(self.found_in(f"class Box:\n    def put(self, box, x):\n        {row}\n"), ["items"], row)
+        for row in ("items = 1", "items: int = 1", "@property\n    def items(self): return 1", "count = 1",
+                    "@property\n    def count(self): return 1"):
+            self.assertEqual(len(self.found_in(f"class Box:\n    {row}\n")), 1, row)
+
+    def test_other_names_are_left_alone(self):
+        for one in sorted(ALLOWED_ATTRIBUTES | {"asked", "item", "entries", "start"}):
+            self.assertEqual(self.found_in(f"def put(box):\n    box.{one} = 1\n    return box.{one}\n"), [], one)
+        self.assertEqual(self.found_in("def put(box):\n    items = list(box.rows.items())\n    items.append(1)\n"), [])
 
 
 if __name__ == "__main__":
